@@ -186,11 +186,11 @@ func TestAnyBytesAreNoProgram(t *testing.T) {
 			t.Fatalf("%q is read", text)
 		}
 	}
-	words := strings.SplitAfter("thread|thread\n|store|load|copy|wall|take|give|in|out|wait| x| y| z| 1| 2| 3|\n|\n|\n", "|")
+	words := strings.Split("thread|thread\n|store|load|copy|wall|take|give|in|out|wait| x| y| z| 1| 2| 3|\n|\n|\n", "|")
 	for range 50000 {
 		text := ""
 		for range r.IntN(12) {
-			text += strings.TrimSuffix(words[r.IntN(len(words))], "|")
+			text += words[r.IntN(len(words))]
 		}
 		checkText(t, text)
 	}
