@@ -1122,23 +1122,28 @@ func wantNoOrder(t *testing.T, name string, p impl.Prog, x impl.Exec, kind int) 
 	}
 }
 
+// wouldBeWays is what might be taken for ways of what is no program.
+func wouldBeWays(p impl.Prog) []impl.Exec {
+	events := plainEvents(p)
+	would := impl.Exec{Order: [][]int{plainWriters(events, 0), plainWriters(events, 1), plainWriters(events, 2)}}
+	for _, e := range events {
+		from := -2
+		if isRead(e.do) {
+			from = -1
+		}
+		would.From = append(would.From, from)
+	}
+	return []impl.Exec{would, {}, {Order: make([][]int, 3)}, {From: would.From, Order: make([][]int, 3)}}
+}
+
 // P37, P42: programs that are not ok, by each order and by none, with all ways that might be of them.
 func TestOrdersOfNoProgram(t *testing.T) {
 	for name, p := range badPrograms() {
-		events := plainEvents(p)
-		would := impl.Exec{Order: [][]int{plainWriters(events, 0), plainWriters(events, 1), plainWriters(events, 2)}}
-		for _, e := range events {
-			from := -2
-			if isRead(e.do) {
-				from = -1
-			}
-			would.From = append(would.From, from)
-		}
 		for _, kind := range append(orders(), 0, -1, 4) {
 			if got := impl.OrderAll(p, kind); len(got) != 0 {
 				t.Errorf("%s, order %d: %s", name, kind, seenTexts(got))
 			}
-			for _, x := range []impl.Exec{would, {}, {Order: make([][]int, 3)}, {From: would.From, Order: make([][]int, 3)}} {
+			for _, x := range wouldBeWays(p) {
 				wantNoOrder(t, name, p, x, kind)
 			}
 		}
@@ -1186,6 +1191,28 @@ func TestWhatIsNoEvent(t *testing.T) {
 	}
 }
 
+// wayOf is a program and what is told of it.
+type wayOf struct {
+	p impl.Prog
+	x impl.Exec
+}
+
+// noWays is, of programs that are ok, what is no way of them.
+func noWays(t *testing.T) map[string]wayOf {
+	p := read(t, "store x 1, store y 1 | load y, load x")
+	q := read(t, "load x, copy y | load y, copy x")
+	list := map[string]wayOf{"copied goes back to itself": {q, way(nums(3, -2, 1, -2), nums(3), nums(1), nil)}}
+	for name, x := range map[string]impl.Exec{
+		"nothing": {}, "no From": way(nil, nums(0), nums(1), nil), "no Order": {From: nums(-2, -2, 1, -1)}, "two places": way(nums(-2, -2, 1, -1), nums(0), nums(1)), "four places": way(nums(-2, -2, 1, -1), nums(0), nums(1), nil, nil),
+		"from another place": way(nums(-2, -2, 0, -1), nums(0), nums(1), nil), "from a read": way(nums(-2, -2, 3, -1), nums(0), nums(1), nil), "from itself": way(nums(-2, -2, 2, -1), nums(0), nums(1), nil), "from past the last": way(nums(-2, -2, 4, -1), nums(0), nums(1), nil), "from -3": way(nums(-2, -2, -3, -1), nums(0), nums(1), nil),
+		"a write that reads": way(nums(-1, -2, 1, -1), nums(0), nums(1), nil), "a read that does not": way(nums(-2, -2, -2, -1), nums(0), nums(1), nil), "one too many": way(nums(-2, -2, 1, -1, -2), nums(0), nums(1), nil), "one is lacking": way(nums(-2, -2, 1), nums(0), nums(1), nil),
+		"rows exchanged": way(nums(-2, -2, 1, -1), nums(1), nums(0), nil), "a row lacks one": way(nums(-2, -2, 1, -1), nil, nums(1), nil), "one twice": way(nums(-2, -2, 1, -1), nums(0, 0), nums(1), nil), "a row of a place that nobody writes": way(nums(-2, -2, 1, -1), nums(0), nums(1), nums(0)),
+	} {
+		list[name] = wayOf{p, x}
+	}
+	return list
+}
+
 // P35, P36: ways that are changed, so that they may be none; just those that are still ways hold, and have what is ahead.
 func TestOrdersOfNoWay(t *testing.T) {
 	r := rand.New(rand.NewPCG(47, 48))
@@ -1211,20 +1238,10 @@ func TestOrdersOfNoWay(t *testing.T) {
 			}
 		}
 	}
-	p := read(t, "store x 1, store y 1 | load y, load x")
-	for name, x := range map[string]impl.Exec{
-		"nothing": {}, "no From": way(nil, nums(0), nums(1), nil), "no Order": {From: nums(-2, -2, 1, -1)}, "two places": way(nums(-2, -2, 1, -1), nums(0), nums(1)), "four places": way(nums(-2, -2, 1, -1), nums(0), nums(1), nil, nil),
-		"from another place": way(nums(-2, -2, 0, -1), nums(0), nums(1), nil), "from a read": way(nums(-2, -2, 3, -1), nums(0), nums(1), nil), "from itself": way(nums(-2, -2, 2, -1), nums(0), nums(1), nil), "from past the last": way(nums(-2, -2, 4, -1), nums(0), nums(1), nil), "from -3": way(nums(-2, -2, -3, -1), nums(0), nums(1), nil),
-		"a write that reads": way(nums(-1, -2, 1, -1), nums(0), nums(1), nil), "a read that does not": way(nums(-2, -2, -2, -1), nums(0), nums(1), nil), "one too many": way(nums(-2, -2, 1, -1, -2), nums(0), nums(1), nil), "one is lacking": way(nums(-2, -2, 1), nums(0), nums(1), nil),
-		"rows exchanged": way(nums(-2, -2, 1, -1), nums(1), nums(0), nil), "a row lacks one": way(nums(-2, -2, 1, -1), nil, nums(1), nil), "one twice": way(nums(-2, -2, 1, -1), nums(0, 0), nums(1), nil), "a row of a place that nobody writes": way(nums(-2, -2, 1, -1), nums(0), nums(1), nums(0)),
-	} {
+	for name, c := range noWays(t) {
 		for _, kind := range orders() {
-			wantNoOrder(t, name, p, x, kind)
+			wantNoOrder(t, name, c.p, c.x, kind)
 		}
-	}
-	q := read(t, "load x, copy y | load y, copy x")
-	for _, kind := range orders() {
-		wantNoOrder(t, "copied goes back to itself", q, way(nums(3, -2, 1, -2), nums(3), nums(1), nil), kind)
 	}
 	if refused < 1000 {
 		t.Error(refused)
